@@ -1,20 +1,13 @@
-"""The calls on a server: each answers a number and leaves its wants with the server."""
+"""The calls that change a server: each answers a number and leaves its wants with the server."""
 
 from fairdoor.guest import Guest, Request, find_request, refill_chances, without_request
-from fairdoor.rules import address_fits, request_fits, rules_fit, time_fits
+from fairdoor.refusals import ADDRESS_FULL, FULL, HAS_IT_ALREADY, IS_ENDING
+from fairdoor.refusals import NOBODY, NO_RULES, NOT_WORKED_AT, OUT_OF_RANGE
+from fairdoor.rules import address_fits, grace_fits, request_fits, rules_fit, time_fits, weight_fits
 from fairdoor.server import TELL_ENDING, TELL_TOO_MANY, TELL_TOO_OFTEN
 from fairdoor.server import cancel_work, count_from, count_working, least_free_number, send_away, set_anew
 from fairdoor.server import want_answer, want_cancel, want_tell
-from fairdoor.turns import go_on, settle
-
-OUT_OF_RANGE = -1
-NOBODY = -2
-HAS_IT_ALREADY = -3
-NO_RULES = -4
-NOT_WORKED_AT = -5
-FULL = -6
-ADDRESS_FULL = -7
-IS_ENDING = -8
+from fairdoor.turns import end_what_is_due, go_on, settle
 
 ONE_CHANCE = 1000
 
@@ -147,4 +140,37 @@ def hear(server, who, now):
     guest = server.inside[who]
     guest.heard_at = server.now
     settle(server)
+    return 0
+
+
+def weigh(server, who, weight, now):
+    if not weight_fits(weight):
+        return OUT_OF_RANGE
+    refused = refuses(server, who, now)
+    if refused < 0:
+        return refused
+    guest = server.inside[who]
+    guest.weight = weight
+    settle(server)
+    return 0
+
+
+def tick(server, now):
+    if not time_fits(now):
+        return OUT_OF_RANGE
+    go_on(server, now)
+    return 0
+
+
+def stop(server, grace, now):
+    if not grace_fits(grace) or not time_fits(now):
+        return OUT_OF_RANGE
+    go_on(server, now)
+    if server.rules is None:
+        return NO_RULES
+    if server.ending:
+        return IS_ENDING
+    server.ending = True
+    server.grace_end = server.now + grace
+    end_what_is_due(server)
     return 0

@@ -5,6 +5,7 @@ LONGEST_SPAN = 2147483648
 NUMBERS_END = 4294967296
 MOST_COST = 65535
 MOST_BYTES = 65536
+MOST_WEIGHT = 16
 
 
 class Rules:
@@ -46,3 +47,11 @@ def address_fits(address):
 
 def request_fits(request, cost, data):
     return within(request, 0, NUMBERS_END - 1) and within(cost, 1, MOST_COST) and len(data) <= MOST_BYTES
+
+
+def weight_fits(weight):
+    return within(weight, 1, MOST_WEIGHT)
+
+
+def grace_fits(grace):
+    return within(grace, 0, LONGEST_SPAN)

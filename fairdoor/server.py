@@ -62,6 +62,10 @@ def count_working(server):
     return sum([len(guest.working) for guest in server.inside.values()])
 
 
+def count_waiting(server):
+    return sum([len(guest.waiting) for guest in server.inside.values()])
+
+
 def count_from(server, address):
     return len([guest for guest in server.inside.values() if guest.address == address])
 

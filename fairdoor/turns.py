@@ -13,6 +13,10 @@ def go_on(server, now):
         return
     drop_late(server)
     close_idle(server)
+    end_what_is_due(server)
+
+
+def end_what_is_due(server):
     close_quiet_if_ending(server)
     close_all_if_grace_over(server)
     tidy_row(server)
@@ -61,13 +65,17 @@ def close_idle(server):
     close_all_of(server, unheard, CLOSE_IDLE)
 
 
+def is_grace_over(server):
+    return server.ending and server.grace_end <= server.now
+
+
 def close_quiet_if_ending(server):
     if server.ending:
         close_all_of(server, quiet_numbers(server), CLOSE_ENDING)
 
 
 def close_all_if_grace_over(server):
-    if not server.ending or server.grace_end > server.now:
+    if not is_grace_over(server):
         return
     numbers = sorted(server.inside)
     for who in numbers:

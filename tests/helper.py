@@ -37,6 +37,41 @@ def heard(who, now=0):
     return [7, who, now]
 
 
+def weight(who, value, now=0):
+    return [8, who, value, now]
+
+
+def tick(now=0):
+    return [9, now]
+
+
+def stop(grace=0, now=0):
+    return [10, grace, now]
+
+
+def due():
+    return [11]
+
+
+def told_call():
+    return [12]
+
+
+def look(who):
+    return [13, who]
+
+
+def looked(address=0, weight=1, credit=0, heard_at=0, working=(), waiting=()):
+    """What look answers of one in."""
+    counts = [len(waiting), len(working)]
+    return [0, address, weight, credit] + counts + [heard_at] + list(working) + list(waiting), []
+
+
+def counted(inside=0, working=0, waiting=0, taken=0, answered=0, told_off=0, ending=0, now=0):
+    """What told answers."""
+    return [0, inside, working, waiting, taken, answered, told_off, ending, now], []
+
+
 def start(who, request, data=()):
     return ("start", who, request, list(data))
 
@@ -77,29 +112,45 @@ def read_want(numbers, place):
     raise AssertionError("no want has the number " + str(kind))
 
 
-def read_answer(numbers):
-    """The number answered, and the wants, of a call that tells nothing between these."""
+def size_told(kind, numbers):
+    """How many numbers stand ahead of the count of wants."""
+    if numbers[0] < 0:
+        return 1
+    if kind == 11:
+        return 1 + numbers[0]
+    if kind == 12:
+        return 9
+    if kind == 13:
+        return 7 + numbers[4] + numbers[5]
+    return 1
+
+
+def read_answer(kind, numbers):
+    """What a call answered and its wants; of due, told, look all numbers ahead of the wants, as a list."""
+    size = size_told(kind, numbers)
     wants = []
-    place = 2
+    place = size + 1
     while place < len(numbers):
         want, place = read_want(numbers, place)
         wants.append(want)
-    if len(wants) != numbers[1] or place != len(numbers):
+    if len(wants) != numbers[size] or place != len(numbers):
         raise AssertionError("the wants are not as many as told")
-    return numbers[0], wants
+    return (numbers[:size] if kind in (11, 12, 13) else numbers[0]), wants
 
 
-def read_all(given):
-    told = []
+def read_all(calls, given):
+    read = []
     place = 0
-    while place < len(given):
+    for call in calls:
         size = given[place]
         part = given[place + 1:place + 1 + size]
         if len(part) != size:
             raise AssertionError("an answer is cut off")
-        told.append(read_answer(part))
+        read.append(read_answer(call[0], part))
         place += 1 + size
-    return told
+    if place != len(given):
+        raise AssertionError("more is answered than was asked")
+    return read
 
 
 def run(*calls):
@@ -107,10 +158,7 @@ def run(*calls):
     flat = []
     for call in calls:
         flat.extend(call)
-    told = read_all(answers(flat))
-    if len(told) != len(calls):
-        raise AssertionError("not every call is answered once")
-    return told
+    return read_all(calls, answers(flat))
 
 
 def last(*calls):

@@ -5,7 +5,7 @@ from fairdoor.rules import Rules
 from fairdoor.server import Server
 from tests.helper import (
     IDLE, LAST_TIME, TOO_LATE, TOO_MANY, TOO_OFTEN, TOP, answer, answers_call, arrives, asks, begin, cancel, close,
-    drops, heard, last, leaves, numbers, run, start, tell,
+    drops, heard, last, leaves, look, looked, numbers, run, start, tell,
 )
 
 
@@ -60,12 +60,8 @@ class Asks(unittest.TestCase):
         self.assertEqual(numbers(begin(wait=0), arrives(), asks(0, 1), asks(0, 1), asks(0, 2))[2:], [0, -3, 1])
 
     def test_number_used_already_is_not_heard(self):
-        server = Server()
-        begin_act(server, Rules(1, 1, 1, 1, 0, 0, 0, 1), 0)
-        arrive(server, 0, 0)
-        ask(server, 0, 1, 1, 3, [])
-        self.assertEqual(ask(server, 0, 1, 1, 8, []), -3)
-        self.assertEqual(server.inside[0].heard_at, 3)
+        told = run(begin(), arrives(), asks(0, 1, now=3), asks(0, 1, now=8), look(0))
+        self.assertEqual(told[3:], [(-3, []), looked(heard_at=3, working=[1])])
 
     def test_number_used_again_when_it_is_done(self):
         told = run(begin(), arrives(), asks(0, 1), answers_call(0, 1), asks(0, 1), drops(0, 1), asks(0, 1))

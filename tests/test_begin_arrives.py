@@ -1,9 +1,9 @@
 import unittest
 
-from fairdoor.acts import ask, arrive, answer, begin as begin_act
-from fairdoor.rules import Rules
-from fairdoor.server import Server
-from tests.helper import IDLE, LAST_TIME, TOP, arrives, asks, begin, close, heard, last, leaves, numbers, run, start
+from tests.helper import (
+    IDLE, LAST_TIME, TOO_MANY, TOP, answers_call, arrives, asks, begin, close, counted, due, heard, last, leaves, look, looked,
+    numbers, run, start, stop, tell, told_call, weight,
+)
 
 
 class Begin(unittest.TestCase):
@@ -42,18 +42,28 @@ class Begin(unittest.TestCase):
         told = run(begin(now=1000), begin(idle=10, now=5), arrives(now=3), heard(0, now=14), heard(0, now=24))
         self.assertEqual(told[3:], [(0, []), (-2, [close(0, IDLE)])])
 
-    def test_nothing_is_counted_and_it_is_not_ending(self):
-        server = Server()
-        begin_act(server, Rules(2, 2, 1, 0, 0, 0, 0, 1), 0)
-        arrive(server, 0, 0)
-        ask(server, 0, 1, 1, 0, [])
-        ask(server, 0, 2, 1, 0, [])
-        answer(server, 0, 1, 0, [])
-        self.assertEqual((server.taken, server.answered, server.told_off), (1, 1, 1))
-        server.ending = True
-        begin_act(server, Rules(2, 2, 1, 0, 0, 0, 0, 1), 0)
-        self.assertEqual((server.taken, server.answered, server.told_off), (0, 0, 0))
-        self.assertEqual(arrive(server, 0, 0), 0)
+    def test_nothing_is_counted(self):
+        told = run(
+            begin(wait=0), arrives(), asks(0, 1), asks(0, 2), answers_call(0, 1, now=7), told_call(), begin(now=3), told_call(),
+        )
+        self.assertEqual(told[3], (1, [tell(0, 2, TOO_MANY)]))
+        self.assertEqual(told[5], counted(inside=1, taken=1, answered=1, told_off=1, now=7))
+        self.assertEqual(told[6:], [(0, []), counted(now=3)])
+
+    def test_not_ending_behind_a_stop(self):
+        before = [begin(), arrives(), asks(0, 1), stop(50, now=5)]
+        told = run(*before, begin(now=1), told_call(), due(), arrives(now=60), asks(0, 1, now=60), stop(0, now=60))
+        self.assertEqual(told[4:7], [(0, []), counted(now=1), ([0], [])])
+        self.assertEqual(told[7:9], [(0, []), (0, [start(0, 1)])])
+        self.assertEqual(told[9][0], 0)
+
+    def test_refused_begin_behind_a_stop_leaves_it_ending(self):
+        told = run(begin(), arrives(), asks(0, 1), stop(50), begin(work=0), arrives(), told_call(), due())
+        self.assertEqual(told[4:], [(-1, []), (-8, []), counted(1, 1, 0, 1, 0, 0, 1, 0), ([1, 50], [])])
+
+    def test_nothing_is_kept_of_who_was_in(self):
+        told = run(begin(), arrives(5), weight(0, 9), asks(0, 1), begin(now=4), look(0), arrives(6, now=4), look(0))
+        self.assertEqual(told[5:], [([-2], []), (0, []), looked(address=6, heard_at=4)])
 
 
 class Arrives(unittest.TestCase):
@@ -85,14 +95,14 @@ class Arrives(unittest.TestCase):
     def test_full_comes_before_the_address(self):
         self.assertEqual(numbers(begin(most=2, each=1), arrives(7), arrives(7), arrives(8), arrives(7)), [0, 0, -7, 1, -6])
 
-    def test_ending_comes_before_full(self):
-        server = Server()
-        begin_act(server, Rules(1, 1, 1, 1, 0, 0, 0, 1), 0)
-        arrive(server, 0, 0)
-        ask(server, 0, 1, 1, 0, [])
-        server.ending = True
-        server.grace_end = 100
-        self.assertEqual(arrive(server, 0, 0), -8)
+    def test_ending_comes_before_full_and_the_address(self):
+        told = numbers(begin(most=1), arrives(), asks(0, 1), arrives(), stop(100), arrives())
+        self.assertEqual(told[3:], [-6, 0, -8])
+        told = numbers(begin(most=2, each=1), arrives(7), asks(0, 1), arrives(7), stop(100), arrives(7))
+        self.assertEqual(told[3:], [-7, 0, -8])
+
+    def test_first_values(self):
+        self.assertEqual(last(begin(), arrives(2 ** 32 - 1, now=8), look(0)), looked(address=2 ** 32 - 1, heard_at=8))
 
     def test_time_goes_on_before_the_refusals(self):
         told = run(begin(most=1, idle=10), arrives(), arrives(now=9), arrives(now=10))

@@ -1,11 +1,8 @@
 import unittest
 
-from fairdoor.acts import answer as answer_act, arrive, ask, begin as begin_act, drop, hear, leave
-from fairdoor.rules import Rules
-from fairdoor.server import Server
 from tests.helper import (
-    IDLE, LAST_TIME, TOO_LATE, answer, answers_call, arrives, asks, begin, cancel, close, drops, heard, last, leaves, run,
-    start, tell,
+    IDLE, LAST_TIME, TOO_LATE, answer, answers_call, arrives, asks, begin, cancel, close, counted, drops, heard, last,
+    leaves, run, start, stop, tell, tick, told_call, weight,
 )
 
 
@@ -117,7 +114,9 @@ class GoingOn(unittest.TestCase):
         calls = [
             begin(most=0, now=99), arrives(2 ** 32, now=99), asks(0, 1, cost=0, now=99), asks(0, 2 ** 32, now=99),
             asks(0, 1, cost=65536, now=99), heard(0, now=LAST_TIME + 1), leaves(0, now=LAST_TIME + 1),
-            drops(0, 1, now=LAST_TIME + 1), answers_call(0, 1, now=LAST_TIME + 1),
+            drops(0, 1, now=LAST_TIME + 1), answers_call(0, 1, now=LAST_TIME + 1), weight(0, 0, now=99),
+            weight(0, 17, now=99), weight(0, 1, now=LAST_TIME + 1), tick(LAST_TIME + 1), stop(2 ** 31 + 1, now=99),
+            stop(0, now=LAST_TIME + 1),
         ]
         for call in calls:
             told = run(begin(idle=10), arrives(), call, heard(0, now=9), heard(0, now=19))
@@ -128,7 +127,7 @@ class GoingOn(unittest.TestCase):
         before = [begin(most=1, limit=10), arrives(), asks(0, 1)]
         for call, number in (
             (arrives(now=10), -6), (asks(5, 1, now=10), -2), (answers_call(0, 1, now=10), -5), (drops(0, 1, now=10), -5),
-            (leaves(64, now=10), -2), (heard(2 ** 64 - 1, now=10), -2),
+            (leaves(64, now=10), -2), (heard(2 ** 64 - 1, now=10), -2), (weight(1, 1, now=10), -2),
         ):
             self.assertEqual(last(*before, call), (number, late), call)
 
@@ -146,95 +145,19 @@ class GoingOn(unittest.TestCase):
         self.assertEqual(told, (1, [cancel(0, 1), tell(0, 1, TOO_LATE), start(0, 2), cancel(0, 2)]))
 
     def test_who_leaves_as_idle_is_nobody(self):
-        for call in (asks(0, 1, now=10), answers_call(0, 1, now=10), drops(0, 1, now=10), leaves(0, now=10), heard(0, now=10)):
+        for call in (
+            asks(0, 1, now=10), answers_call(0, 1, now=10), drops(0, 1, now=10), leaves(0, now=10), heard(0, now=10),
+            weight(0, 2, now=10),
+        ):
             self.assertEqual(last(begin(idle=10), arrives(), call), (-2, [close(0, IDLE)]), call)
 
     def test_time_goes_on_without_rules(self):
-        server = Server()
-        self.assertEqual(arrive(server, 0, 40), -4)
-        self.assertEqual(hear(server, 0, 30), -2)
-        self.assertEqual(server.now, 40)
+        for call in (arrives(now=40), asks(0, 1, now=40), heard(0, now=40), weight(0, 1, now=40), tick(40), stop(0, now=40)):
+            self.assertEqual(last(call, heard(0, now=30), told_call()), counted(now=40), call)
 
-
-class Ending(unittest.TestCase):
-    """No call sets it ending yet, so these set the server's own values."""
-
-    def make(self, work=2, limit=0):
-        server = Server()
-        begin_act(server, Rules(4, 4, work, 4, 0, limit, 0, 1), 0)
-        for who in (0, 1, 2):
-            arrive(server, 0, 0)
-        for who, number in ((1, 5), (1, 4), (0, 6), (1, 7)):
-            ask(server, who, number, 1, 0, [])
-        server.ending = True
-        server.grace_end = 100
-        server.wants = []
-        return server
-
-    def test_quiet_ones_leave(self):
-        server = self.make()
-        self.assertEqual(hear(server, 2, 1), -2)
-        self.assertEqual(server.wants, [[4, 2, 2]])
-        self.assertEqual(sorted(server.inside), [0, 1])
-
-    def test_nobody_arrives(self):
-        server = self.make()
-        self.assertEqual(arrive(server, 9, 1), -8)
-        self.assertEqual(server.wants, [[4, 2, 2]])
-
-    def test_asks_are_told_off(self):
-        server = self.make()
-        hear(server, 0, 1)
-        server.wants = []
-        heard_before = server.inside[0].heard_at
-        self.assertEqual(ask(server, 0, 9, 1, 2, []), 3)
-        self.assertEqual(server.wants, [[2, 0, 9, 3]])
-        self.assertEqual((heard_before, server.inside[0].heard_at), (1, 2))
-        self.assertEqual(ask(server, 0, 6, 1, 2, []), -3)
-
-    def test_told_off_for_ending_before_the_rate_and_too_many(self):
-        server = self.make()
-        server.rules.rate = 1
-        server.rules.wait = 0
-        server.inside[0].chances = 0
-        self.assertEqual(ask(server, 0, 9, 1, 2, []), 3)
-
-    def test_what_waits_is_still_started_and_who_is_done_leaves(self):
-        server = self.make()
-        hear(server, 0, 1)
-        server.wants = []
-        self.assertEqual(answer_act(server, 1, 5, 2, []), 0)
-        self.assertEqual(server.wants, [[1, 1, 5, 0], [0, 0, 6, 0]])
-        server.wants = []
-        self.assertEqual(answer_act(server, 0, 6, 3, []), 0)
-        self.assertEqual(server.wants, [[1, 0, 6, 0], [4, 0, 2], [0, 1, 7, 0]])
-        server.wants = []
-        self.assertEqual(drop(server, 1, 4, 4), 1)
-        self.assertEqual(server.wants, [[3, 1, 4]])
-        server.wants = []
-        self.assertEqual(drop(server, 1, 7, 4), 1)
-        self.assertEqual(server.wants, [[3, 1, 7], [4, 1, 2]])
-
-    def test_late_then_quiet(self):
-        server = self.make(limit=10)
-        self.assertEqual(leave(server, 1, 10), -2)
-        self.assertEqual(server.wants, [
-            [2, 0, 6, 4], [3, 1, 5], [2, 1, 5, 4], [3, 1, 4], [2, 1, 4, 4], [2, 1, 7, 4], [4, 0, 2], [4, 1, 2], [4, 2, 2],
-        ])
-
-    def test_grace_is_over(self):
-        server = self.make()
-        self.assertEqual(hear(server, 0, 99), 0)
-        self.assertEqual(server.wants, [[4, 2, 2]])
-        server.wants = []
-        self.assertEqual(hear(server, 0, 100), -2)
-        self.assertEqual(server.wants, [[3, 1, 5], [3, 1, 4], [4, 0, 3], [4, 1, 3]])
-        self.assertEqual((server.inside, server.row), ({}, []))
-
-    def test_grace_is_over_by_numbers(self):
-        server = self.make(work=3)
-        hear(server, 0, 101)
-        self.assertEqual(server.wants, [[4, 2, 2], [3, 0, 6], [3, 1, 5], [3, 1, 4], [4, 0, 3], [4, 1, 3]])
+    def test_time_does_not_go_on_without_rules_when_out_of_range(self):
+        for call in (arrives(2 ** 32, now=40), weight(0, 0, now=40), tick(LAST_TIME + 1), stop(2 ** 31 + 1, now=40)):
+            self.assertEqual(run(call, told_call()), [(-1, []), counted()], call)
 
 
 if __name__ == "__main__":
